@@ -1,0 +1,1 @@
+"""Fitboard: parts with versions that need other parts, chosen or shown not to fit."""
