@@ -1,6 +1,7 @@
 """Finds code of the package that lies outside the part of Python it keeps to.
 
-It sees the rules that a reader of the syntax tree can see. That nothing in the
+It sees a part of the rules alone: nothing of L13, L18, L19, L21 to L24, L27 and
+L28, and only some of the others; those are kept by reading. That nothing in the
 package uses a clock, chance or files hangs on it too: without an import of
 Python's own and without names beyond those listed, there is no way to them.
 """
