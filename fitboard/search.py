@@ -115,9 +115,9 @@ class Search:
     def mark_dead(self, bit, place):
         """Bar the pick of the bit at each fork behind the other picks of the line at the place."""
         others = self.ledger.masks[place] & ~bit
-        for fork in self.forks:
-            if others & ~fork.stand.picked == 0:
-                fork.stand.dead |= bit
+        for stand in [fork.stand for fork in self.forks]:
+            if others & ~stand.picked == 0:
+                stand.dead |= bit
 
     def shut(self, fork, known):
         """The place of a line by which the fork's part has no version left.

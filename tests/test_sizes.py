@@ -130,6 +130,25 @@ class SizesTest(unittest.TestCase):
         shelf.pop()
         self.assertIsNone(self.told(shelf, start))
 
+    def test_a_chain_does_not_take_lines_without_end(self):
+        shelf = chain(100, range(10), [])
+        start = [(part, 0, 9) for part in names(100)] + [("part099", 0, 0)]
+        self.assertLess(len(worked_out(shelf, start)[1]), 3 * len(shelf))
+
+    def test_boards_on_which_many_picks_are_taken_back(self):
+        for seed in range(10):
+            chance = random.Random(seed)
+            parts = names(30)
+            shelf = []
+            for part in parts:
+                for version in range(30):
+                    needs = []
+                    for each in range(chance.randint(0, 5)):
+                        low = chance.randint(0, 29)
+                        needs.append((chance.choice(parts), low, low + chance.randint(0, 20)))
+                    shelf.append((part, version, needs))
+            self.told(shelf, [(part, 0, 29) for part in chance.sample(parts, 10)])
+
     def test_many_parts_that_come_to_nothing_by_themselves(self):
         parts = names(24)
         shelf = [("app", 2, [(part, 1, 9) for part in parts] + [("base", 1, 1)]), ("app", 1, [])]
