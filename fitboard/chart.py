@@ -39,13 +39,13 @@ class Chart:
 
     def allowed_by(self, who):
         """By each part that `who` needs, in the order of the needs, the mask of the picks that meet all of them."""
-        bounds = {}
+        joint = {}
         for part, low, high in self.board.needs[who]:
-            old_low, old_high = bounds.get(part, (low, high))
-            bounds[part] = (max(low, old_low), min(high, old_high))
+            earlier = joint.get(part, (part, low, high))
+            joint[part] = (part, max(low, earlier[1]), min(high, earlier[2]))
         allowed = {}
-        for part in bounds:
-            versions = self.board.meeting((part, bounds[part][0], bounds[part][1]))
+        for part in joint:
+            versions = self.board.meeting(joint[part])
             allowed[part] = sum([self.bits[(part, version)] for version in versions])
         return allowed
 

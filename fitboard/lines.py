@@ -39,8 +39,8 @@ def has_all(among, picks):
 
 def follows(board, lines, place):
     """True where the line at the place follows, else False."""
-    picks, reason = lines[place]
-    among = marked(picks)
+    reason = lines[place][1]
+    among = marked(lines[place][0])
     need = need_told(board, among, reason)
     if need is None:
         return False

@@ -125,7 +125,8 @@ class Search:
         `known` tells by bits the places of lines against versions that are not dead at the fork.
         """
         who = fork.stand.wanted[fork.part]
-        place, need = self.first_need(who, fork.part)
+        place = self.place_of_need(who, fork.part)
+        need = self.chart.board.needs[who][place]
         mask = self.chart.bits[who]
         below = []
         for version in self.chart.board.meeting(need):
@@ -136,11 +137,9 @@ class Search:
             mask |= self.ledger.masks[at] & ~bit
         return self.ledger.put_down(mask, ("open", who, place, below))
 
-    def first_need(self, who, part):
-        """The place of the first need of `who` for the part, and the need, a pair."""
-        needs = self.chart.board.needs[who]
-        place = [need[0] for need in needs].index(part)
-        return (place, needs[place])
+    def place_of_need(self, who, part):
+        """The place of the first need of `who` for the part."""
+        return [need[0] for need in self.chart.board.needs[who]].index(part)
 
     def line_against(self, pick):
         """The place of a line that bars a dead pick, by the earliest picks by which it is dead."""
@@ -175,7 +174,7 @@ class Search:
 
     def newer_picks(self, fork):
         """The picks that are newer than the fork's and meet the first need of the start for its part."""
-        need = self.first_need(None, fork.part)[1]
+        need = self.chart.board.needs[None][self.place_of_need(None, fork.part)]
         picked = self.chart.by_bit[fork.bit][1]
         return [(fork.part, version) for version in self.chart.board.meeting(need) if version > picked]
 
